@@ -1,0 +1,1 @@
+"""Who waits for whom: passengers board an aeroplane, one behind another, each to a row."""
