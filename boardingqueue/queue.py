@@ -1,6 +1,7 @@
 """The calls on one boarding, handed in and answered as lists of whole numbers."""
 
-from boardingqueue.waiting import first_longest_chain, last_awaited, rounds_needed, rounds_of, waits_for
+from boardingqueue.waiting import best_order, fewest_rounds, first_longest_chain, last_awaited, lengths_through
+from boardingqueue.waiting import rounds_by_place, rounds_needed, rounds_of, waiting_pairs, waits_for, with_one_more
 
 MOST_ROWS = 30
 MOST_PASSENGERS = 12
@@ -110,7 +111,65 @@ def answer_chain(boarding, arguments):
     return [len(chain)] + chain
 
 
+def answer_through(boarding, arguments):
+    k = arguments[0]
+    if not boarding.has_passenger(k):
+        return [NONE_SUCH]
+    lengths = lengths_through(boarding.queue)
+    return [lengths[k], max(lengths) - lengths[k]]
+
+
+def answer_pairs(boarding, arguments):
+    return [waiting_pairs(boarding.queue)]
+
+
+def answer_best(boarding, arguments):
+    return [fewest_rounds(boarding.queue)] + best_order(boarding.queue)
+
+
+def answer_order(boarding, arguments):
+    order = arguments[1:]
+    if sorted(order) != list(range(len(boarding.queue))):
+        return [NOT_AS_TOLD]
+    reordered = [boarding.queue[k] for k in order]
+    return [rounds_needed(reordered)] + rounds_of(reordered)
+
+
+def answer_add(boarding, arguments):
+    row = arguments[0]
+    place = arguments[1]
+    if not boarding.has_row(row) or place > len(boarding.queue):
+        return [NOT_AS_TOLD]
+    return [rounds_needed(with_one_more(boarding.queue, row, place)), rounds_needed(boarding.queue)]
+
+
+def answer_least(boarding, arguments):
+    row = arguments[0]
+    if not boarding.has_row(row):
+        return [NOT_AS_TOLD]
+    needed = rounds_by_place(boarding.queue, row)
+    fewest = min(needed)
+    return [needed.index(fewest), fewest]
+
+
+def answer_rows(boarding, arguments):
+    row = arguments[0]
+    if not boarding.has_row(row):
+        return [NOT_AS_TOLD]
+    going = [k for k in range(len(boarding.queue)) if boarding.queue[k] == row]
+    return [len(going)] + going
+
+
+def answer_queue(boarding, arguments):
+    return [len(boarding.queue)] + boarding.queue
+
+
+def answer_state(boarding, arguments):
+    return [len(boarding.queue), boarding.row_count]
+
+
 BEGIN = 0
+ORDER = 13
 
 # Both stand in the order of the calls' numbers.
 ANSWERERS = (
@@ -124,8 +183,18 @@ ANSWERERS = (
     answer_wait,
     answer_waits,
     answer_chain,
+    answer_through,
+    answer_pairs,
+    answer_best,
+    answer_order,
+    answer_add,
+    answer_least,
+    answer_rows,
+    answer_queue,
+    answer_state,
 )
-ARGUMENT_COUNTS = (1, 1, 1, 2, 0, 1, 1, 1, 2, 0)
+# Of order only the count that stands before its numbers is counted here.
+ARGUMENT_COUNTS = (1, 1, 1, 2, 0, 1, 1, 1, 2, 0, 1, 0, 0, 1, 2, 1, 1, 0, 0)
 
 
 def answer_call(boarding, number, arguments):
@@ -134,15 +203,22 @@ def answer_call(boarding, number, arguments):
     return ANSWERERS[number](boarding, arguments)
 
 
+def end_of_call(calls, start):
+    """The place behind the last number of the call that starts there."""
+    end = start + 1 + ARGUMENT_COUNTS[calls[start]]
+    if calls[start] == ORDER:
+        end = end + calls[start + 1]
+    return end
+
+
 def answers(calls):
     """Make the calls on a new boarding; give back, for each, how many numbers are answered, and these."""
     boarding = Boarding()
     answered = []
     start = 0
     while start < len(calls):
-        number = calls[start]
-        end = start + 1 + ARGUMENT_COUNTS[number]
-        answer = answer_call(boarding, number, calls[start + 1:end])
+        end = end_of_call(calls, start)
+        answer = answer_call(boarding, calls[start], calls[start + 1:end])
         answered.append(len(answer))
         answered.extend(answer)
         start = end

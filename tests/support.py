@@ -6,6 +6,9 @@ from boardingqueue.queue import answers
 
 LARGEST = 4294967295
 
+NAMES = ("begin", "come", "out", "move", "rounds", "round", "who", "wait", "waits", "chain",
+         "through", "pairs", "best", "order", "add", "least", "rows", "queue", "state")
+
 
 def begin(rows):
     return [0, rows]
@@ -47,6 +50,42 @@ def chain():
     return [9]
 
 
+def through(k):
+    return [10, k]
+
+
+def pairs():
+    return [11]
+
+
+def best():
+    return [12]
+
+
+def order(*numbers):
+    return [13, len(numbers)] + list(numbers)
+
+
+def add(row, place):
+    return [14, row, place]
+
+
+def least(row):
+    return [15, row]
+
+
+def those_to(row):
+    return [16, row]
+
+
+def the_queue():
+    return [17]
+
+
+def the_state():
+    return [18]
+
+
 def ask(calls):
     """Each call's answer as a list of its own."""
     given = answers([number for call in calls for number in call])
@@ -73,11 +112,12 @@ def ask_of(queue, *calls, rows=30):
 def look(size, rows):
     """Calls whose answers tell all there is to tell of a boarding with so many passengers and rows.
 
-    The last part lays each passenger's row open: somebody to each row in turn stands behind all.
-    With 12 there is no place for them, so the first goes out before.
+    The last part lays each passenger's row open otherwise than by asking for it: somebody to each row
+    in turn stands behind all. With 12 there is no place for them, so the first goes out before.
     """
-    calls = [rounds(), chain()]
+    calls = [rounds(), chain(), the_queue(), the_state(), pairs(), best()]
     calls += [waits(k, j) for k in range(size) for j in range(k)]
+    calls += [those_to(row) for row in range(1, rows + 1)]
     if size == 12:
         calls.append(out(0))
         size -= 1
@@ -114,6 +154,29 @@ def model_chain(queue):
     return []
 
 
+def model_chains(queue):
+    """All chains, each a tuple."""
+    chains = [(k,) for k in range(len(queue))]
+    for begun in chains:
+        chains += [begun + (k,) for k in range(len(queue)) if model_waits(queue, k, begun[-1])]
+    return chains
+
+
+def model_best(queue):
+    """The best order as the document tells it, one told after the other."""
+    left = list(range(len(queue)))
+    told = []
+    turns = 0
+    while left:
+        turns += 1
+        for row in range(30, 0, -1):
+            of_row = [k for k in left if queue[k] == row]
+            if of_row:
+                told.append(of_row[0])
+                left.remove(of_row[0])
+    return [turns] + told
+
+
 class Model:
     """A slow and plain boarding; refusals in the document's order."""
 
@@ -122,37 +185,39 @@ class Model:
         self.queue = []
 
     def answer(self, call):
-        names = ("begin", "come", "out", "move", "rounds", "round", "who", "wait", "waits", "chain")
-        name = names[call[0]]
+        name = NAMES[call[0]]
         if name != "begin" and self.rows is None:
             return [-11]
-        return getattr(self, name)(*call[1:])
+        return getattr(self, "answer_" + name)(*call[1:])
 
     def lacks(self, k):
         return k not in range(len(self.queue))
 
-    def begin(self, rows):
+    def lacks_row(self, row):
+        return row not in range(1, self.rows + 1)
+
+    def answer_begin(self, rows):
         if rows not in range(1, 31):
             return [-22]
         self.rows = rows
         self.queue = []
         return [0]
 
-    def come(self, row):
-        if row not in range(1, self.rows + 1):
+    def answer_come(self, row):
+        if self.lacks_row(row):
             return [-22]
         if len(self.queue) >= 12:
             return [-28]
         self.queue = self.queue + [row]
         return [len(self.queue) - 1]
 
-    def out(self, k):
+    def answer_out(self, k):
         if self.lacks(k):
             return [-2]
         self.queue = self.queue[:k] + self.queue[k + 1:]
         return [len(self.queue)]
 
-    def move(self, k, place):
+    def answer_move(self, k, place):
         if self.lacks(k):
             return [-2]
         if self.lacks(place):
@@ -161,19 +226,19 @@ class Model:
         self.queue = others[:place] + [self.queue[k]] + others[place:]
         return [max(model_rounds(self.queue))]
 
-    def rounds(self):
+    def answer_rounds(self):
         told = model_rounds(self.queue)
         return [max(told, default=0)] + told
 
-    def round(self, k):
+    def answer_round(self, k):
         return [-2] if self.lacks(k) else [model_rounds(self.queue)[k]]
 
-    def who(self, t):
+    def answer_who(self, t):
         told = model_rounds(self.queue)
         these = [k for k, sits in enumerate(told) if sits == t]
         return [len(these)] + these
 
-    def wait(self, k):
+    def answer_wait(self, k):
         if self.lacks(k):
             return [-2]
         told = model_rounds(self.queue)
@@ -182,11 +247,57 @@ class Model:
                 return [j]
         return [-33]
 
-    def waits(self, k, other):
+    def answer_waits(self, k, other):
         if self.lacks(k) or self.lacks(other):
             return [-2]
         return [int(model_waits(self.queue, k, other))]
 
-    def chain(self):
+    def answer_chain(self):
         first = model_chain(self.queue)
         return [len(first)] + first
+
+    def answer_through(self, k):
+        if self.lacks(k):
+            return [-2]
+        chains = model_chains(self.queue)
+        longest = max(len(one) for one in chains if k in one)
+        return [longest, max(len(one) for one in chains) - longest]
+
+    def answer_pairs(self):
+        size = len(self.queue)
+        return [sum(model_waits(self.queue, k, j) for k in range(size) for j in range(size))]
+
+    def answer_best(self):
+        return model_best(self.queue)
+
+    def answer_order(self, count, *numbers):
+        everybody = set(range(len(self.queue)))
+        if count != len(everybody) or set(numbers) != everybody:
+            return [-22]
+        told = model_rounds([self.queue[k] for k in numbers])
+        return [max(told, default=0)] + told
+
+    def answer_add(self, row, place):
+        if self.lacks_row(row) or place not in range(len(self.queue) + 1):
+            return [-22]
+        grown = list(self.queue)
+        grown.insert(place, row)
+        return [max(model_rounds(grown)), max(model_rounds(self.queue), default=0)]
+
+    def answer_least(self, row):
+        if self.lacks_row(row):
+            return [-22]
+        told = [(self.answer_add(row, place)[0], place) for place in range(len(self.queue) + 1)]
+        return [min(told)[1], min(told)[0]]
+
+    def answer_rows(self, row):
+        if self.lacks_row(row):
+            return [-22]
+        these = [k for k, to in enumerate(self.queue) if to == row]
+        return [len(these)] + these
+
+    def answer_queue(self):
+        return [len(self.queue)] + self.queue
+
+    def answer_state(self):
+        return [len(self.queue), self.rows]

@@ -2,13 +2,17 @@
 
 import unittest
 
-from support import LARGEST, ask, ask_of, begin, boarded, chain, come, look, move, out, round_of, rounds, wait
-from support import waits, who
+from boardingqueue.queue import answers
+from support import LARGEST, add, ask, ask_of, begin, best, boarded, chain, come, least, look, move, order, out, pairs
+from support import round_of, rounds, the_queue, the_state, those_to, through, wait, waits, who
 
 
 class NotBegun(unittest.TestCase):
     others = [come(1), come(0), out(0), move(0, 0), rounds(), round_of(0), who(1), who(0), wait(0), waits(0, 0),
-              chain(), come(LARGEST), out(LARGEST), move(LARGEST, LARGEST), waits(LARGEST, 0)]
+              chain(), come(LARGEST), out(LARGEST), move(LARGEST, LARGEST), waits(LARGEST, 0),
+              through(0), through(LARGEST), pairs(), best(), order(), order(0), order(LARGEST), order(*range(14)),
+              order(*[LARGEST] * 14), add(1, 0), add(0, 0), add(LARGEST, LARGEST), least(1), least(0), least(LARGEST),
+              those_to(1), those_to(0), those_to(LARGEST), the_queue(), the_state()]
 
     def test_all_others_answer_not_begun(self):
         for call in self.others:
@@ -17,6 +21,11 @@ class NotBegun(unittest.TestCase):
     def test_a_refused_begin_begins_nothing(self):
         for rows in (0, 31, LARGEST):
             self.assertEqual(ask([begin(rows)] + self.others), [[-22]] + [[-11]] * len(self.others))
+
+    def test_behind_a_refused_order_the_next_call_is_read(self):
+        for size in range(15):
+            self.assertEqual(answers([13, size] + [0] * size + [0, 5, 18]), [1, -11, 1, 0, 2, 0, 5], size)
+            self.assertEqual(answers([13, size] + [1] * size + [18]), [1, -11, 1, -11], size)
 
     def test_what_came_before_begin_is_not_there_after(self):
         self.assertEqual(ask([come(1), begin(3), rounds(), come(1)]), [[-11], [0], [0], [0]])
@@ -139,9 +148,14 @@ class Refused(unittest.TestCase):
 
     def test_with_some(self):
         told_by_number = {
-            -22: [begin(0), begin(31), begin(LARGEST), come(0), come(6), come(LARGEST), move(0, 4), move(3, LARGEST)],
+            -22: [begin(0), begin(31), begin(LARGEST), come(0), come(6), come(LARGEST), move(0, 4), move(3, LARGEST),
+                  order(), order(0, 1, 2), order(0, 1, 2, 2), order(0, 1, 2, 4), order(3, 2, 1, LARGEST),
+                  order(0, 1, 2, 3, 4), order(0, 1, 2, 3, 3), order(*range(14)), add(0, 0), add(6, 0), add(1, 5),
+                  add(LARGEST, 0), add(5, LARGEST), add(0, 5), least(0), least(6), least(LARGEST), those_to(0),
+                  those_to(6), those_to(LARGEST)],
             -2: [out(4), out(LARGEST), move(4, 0), move(LARGEST, 0), move(4, 4), round_of(4), round_of(LARGEST),
-                 wait(4), wait(LARGEST), waits(4, 0), waits(0, 4), waits(LARGEST, LARGEST)],
+                 wait(4), wait(LARGEST), waits(4, 0), waits(0, 4), waits(LARGEST, LARGEST), through(4),
+                 through(LARGEST)],
             -33: [wait(0), wait(1)],
         }
         for number, refused in told_by_number.items():
@@ -150,12 +164,15 @@ class Refused(unittest.TestCase):
     def test_with_twelve(self):
         queue = [3, 1, 4, 1, 5, 2, 5, 3, 5, 2, 4, 1]
         self.check(queue, [come(1), come(5)], -28)
-        self.check(queue, [come(0), come(6), move(0, 12), begin(31)], -22)
-        self.check(queue, [out(12), move(12, 0), round_of(12), wait(12), waits(12, 0), waits(0, 12)], -2)
+        self.check(queue, [come(0), come(6), move(0, 12), begin(31), order(*range(11)), order(*range(13)),
+                           order(*range(1, 13)), order(0, *range(11)), order(0, *range(12)), add(6, 12), add(0, 0),
+                           add(1, 13), least(0), least(6), those_to(0), those_to(6)], -22)
+        self.check(queue, [out(12), move(12, 0), round_of(12), wait(12), waits(12, 0), waits(0, 12), through(12)], -2)
 
     def test_with_nobody(self):
-        self.check([], [begin(31), come(6)], -22)
-        self.check([], [out(0), move(0, 0), round_of(0), wait(0), waits(0, 0)], -2)
+        self.check([], [begin(31), come(6), order(0), order(LARGEST), order(*range(14)), add(0, 0), add(6, 0),
+                        add(1, 1), least(0), least(6), those_to(0), those_to(6)], -22)
+        self.check([], [out(0), move(0, 0), round_of(0), wait(0), waits(0, 0), through(0)], -2)
 
 
 if __name__ == "__main__":

@@ -1,9 +1,10 @@
-"""Points 2 and 3: rounds, round, who, wait, waits, chain."""
+"""Points 2 and 3: rounds, round, who, wait, waits, pairs, chain, through."""
 
 import unittest
 from itertools import product
 
-from support import LARGEST, ask_of, begin, chain, move, out, round_of, rounds, wait, waits, who
+from support import LARGEST, add, ask_of, begin, best, chain, least, move, order, out, pairs, round_of, rounds
+from support import the_queue, the_state, those_to, through, wait, waits, who
 
 MIXED = [3, 1, 4, 1, 5, 9, 2, 6, 5, 3, 5, 8]
 
@@ -111,6 +112,45 @@ class Waits(unittest.TestCase):
         self.assertEqual(ask_of([], waits(0, 0)), [[-2]])
 
 
+class Pairs(unittest.TestCase):
+    def check(self, queue, number):
+        self.assertEqual(ask_of(queue, pairs()), [[number]], queue)
+
+    def test_nobody_and_one(self):
+        self.check([], 0)
+        self.check([1], 0)
+        self.check([30], 0)
+
+    def test_all_to_one_row(self):
+        self.check([5] * 12, 66)
+
+    def test_rows_that_rise(self):
+        self.check([1, 2], 1)
+        self.check(list(range(1, 13)), 66)
+        self.check([28, 29, 30], 3)
+
+    def test_rows_that_fall(self):
+        self.check([2, 1], 0)
+        self.check(list(range(12, 0, -1)), 0)
+
+    def test_two_alike_beside_each_other(self):
+        self.check([4, 4], 1)
+        self.check([5, 4, 4, 3], 1)
+        self.check([30, 30, 1], 1)
+
+    def test_also_those_who_are_not_in_rounds_beside_each_other(self):
+        self.check([1, 2, 3], 3)
+        self.check([2, 1, 3, 3], 5)
+
+    def test_ordinary(self):
+        self.check(MIXED, 48)
+
+    def test_as_many_as_waits_tells(self):
+        for queue in product(range(1, 4), repeat=5):
+            told = ask_of(queue, pairs(), *[waits(k, j) for k, j in product(range(5), repeat=2)])
+            self.assertEqual(told[0], [sum(answer[0] for answer in told[1:])], queue)
+
+
 class Chain(unittest.TestCase):
     def check(self, queue, first):
         self.assertEqual(ask_of(queue, chain()), [[len(first)] + first])
@@ -146,9 +186,52 @@ class Chain(unittest.TestCase):
         self.assertEqual(ask_of([3, 1, 2], chain(), move(0, 2), chain()), [[2, 1, 2], [3], [3, 0, 1, 2]])
 
 
+class Through(unittest.TestCase):
+    def check(self, queue, told):
+        self.assertEqual(ask_of(queue, *[through(k) for k in range(len(queue))]), told)
+
+    def test_one(self):
+        self.check([1], [[1, 0]])
+        self.check([30], [[1, 0]])
+
+    def test_all_to_one_row(self):
+        self.check([5] * 12, [[12, 0]] * 12)
+
+    def test_rows_that_rise(self):
+        self.check(list(range(19, 31)), [[12, 0]] * 12)
+
+    def test_rows_that_fall(self):
+        self.check(list(range(12, 0, -1)), [[1, 0]] * 12)
+
+    def test_two_alike_beside_each_other(self):
+        self.check([5, 4, 4, 3], [[1, 1], [2, 0], [2, 0], [1, 1]])
+
+    def test_one_ahead_of_all_in_the_last_row(self):
+        self.check([30, 1, 2, 3], [[1, 2], [3, 0], [3, 0], [3, 0]])
+
+    def test_also_who_is_only_in_a_longest_chain_that_is_not_the_first(self):
+        self.assertEqual(ask_of([1, 3, 2, 4], chain(), through(2)), [[3, 0, 1, 3], [3, 0]])
+
+    def test_both_those_ahead_and_those_behind_count(self):
+        self.check([1, 2, 9, 3, 4], [[4, 0], [4, 0], [3, 1], [4, 0], [4, 0]])
+        self.check([9, 5, 1, 6, 2, 3, 4], [[1, 3], [2, 2], [4, 0], [2, 2], [4, 0], [4, 0], [4, 0]])
+
+    def test_ordinary(self):
+        self.check(MIXED, [[6, 0], [6, 0], [6, 0], [6, 0], [6, 0], [4, 2], [6, 0], [5, 1], [6, 0], [6, 0], [6, 0],
+                           [6, 0]])
+
+    def test_no_such_passenger(self):
+        for k in (3, 4, 12, LARGEST):
+            self.assertEqual(ask_of([1, 2, 3], through(k)), [[-2]], k)
+        self.assertEqual(ask_of([], through(0), through(LARGEST)), [[-2], [-2]])
+        self.assertEqual(ask_of([1] * 12, through(11), through(12)), [[12, 0], [-2]])
+
+
 class AskingChangesNothing(unittest.TestCase):
     def test_asked_again_the_same_is_answered(self):
-        calls = [rounds(), round_of(3), who(2), wait(5), waits(5, 4), chain(), begin(31), out(12)]
+        calls = [rounds(), round_of(3), who(2), wait(5), waits(5, 4), chain(), begin(31), out(12), through(5), pairs(),
+                 best(), order(*range(11, -1, -1)), order(1), add(1, 0), add(30, 12), least(1), least(5), those_to(5),
+                 the_queue(), the_state()]
         told = ask_of(MIXED, *calls, *calls)
         self.assertEqual(told[:len(calls)], told[len(calls):])
 
